@@ -1,0 +1,101 @@
+"""The rules of LANGUAGE.md that can be read off the files without doubt."""
+
+import ast
+import re
+import unittest
+from pathlib import Path
+
+PACKAGE = Path(__file__).resolve().parent.parent / "lanternrows"
+FILES = sorted(PACKAGE.rglob("*.py"))
+BUILTINS = set(
+    "len range enumerate zip min max sum abs sorted reversed int str bool bytes list tuple dict set frozenset "
+    "isinstance ord repr any all divmod print super Exception ValueError TypeError KeyError IndexError LookupError "
+    "ZeroDivisionError ArithmeticError OverflowError RuntimeError NotImplementedError AttributeError "
+    "StopIteration NotImplemented".split()
+)
+BARRED_WORDS = (
+    "type typing typing_extensions enum Enum IntEnum StrEnum Flag IntFlag Generic Protocol ABC ABCMeta namedtuple "
+    "NamedTuple TypedDict TYPE_CHECKING abstractmethod"
+).split()
+FUNCTIONS = (ast.FunctionDef, ast.AsyncFunctionDef)
+BARRED_NODES = (ast.Global, ast.AsyncFunctionDef, ast.AsyncFor, ast.AsyncWith, ast.Await, ast.Div, ast.Import)
+
+
+def bound_names(tree):
+    """Every name that a file gives a meaning to, anywhere in it."""
+    names = set()
+    for node in ast.walk(tree):
+        if isinstance(node, FUNCTIONS + (ast.ClassDef,)):
+            names.add(node.name)
+        elif isinstance(node, ast.arg):
+            names.add(node.arg)
+        elif isinstance(node, ast.alias):
+            names.add(node.asname or node.name)
+        elif isinstance(node, ast.Name) and isinstance(node.ctx, ast.Store):
+            names.add(node.id)
+        elif isinstance(node, ast.ExceptHandler) and node.name:
+            names.add(node.name)
+    return names
+
+
+class Language(unittest.TestCase):
+    def setUp(self):
+        self.texts = {path: path.read_text(encoding="utf-8") for path in FILES}
+        self.trees = {path: ast.parse(text) for path, text in self.texts.items()}
+
+    def test_there_are_files(self):
+        self.assertIn(PACKAGE / "__init__.py", FILES)
+
+    def test_the_folder_has_nothing_else(self):
+        for path in PACKAGE.rglob("*"):
+            if "__pycache__" not in path.parts and path.is_file():
+                self.assertRegex(path.name, r"\A[a-z0-9_]+\.py\Z")
+
+    def test_signs_and_sizes(self):
+        for path, text in self.texts.items():
+            self.assertIsNone(re.search(r"[^ -~\n]", text), path)
+            rows = text.split("\n")
+            self.assertLessEqual(len(rows), 401, path)
+            self.assertLessEqual(max(len(row) for row in rows), 120, path)
+
+    def test_small_functions(self):
+        for path, tree in self.trees.items():
+            for node in ast.walk(tree):
+                if isinstance(node, FUNCTIONS):
+                    self.assertLessEqual(node.end_lineno - node.lineno + 1, 40, (path, node.name))
+
+    def test_imports_are_from_the_package_by_full_names(self):
+        for path, tree in self.trees.items():
+            if path.name == "__main__.py":
+                continue
+            for node in ast.walk(tree):
+                if isinstance(node, ast.ImportFrom):
+                    self.assertEqual(node.level, 0, path)
+                    self.assertRegex(node.module, r"\A(lanternrows(\..+)?|__future__)\Z", path)
+                self.assertNotIsInstance(node, BARRED_NODES, path)
+
+    def test_no_barred_words(self):
+        for path, text in self.texts.items():
+            for word in BARRED_WORDS:
+                self.assertIsNone(re.search(rf"\b{word}\b", text), (path, word))
+            self.assertIsNone(re.search("dataclass|overload|contextmanager", text), path)
+
+    def test_no_numbers_with_a_point_and_no_percent_sign_in_a_text(self):
+        for path, tree in self.trees.items():
+            for node in ast.walk(tree):
+                if isinstance(node, ast.Constant):
+                    self.assertNotIsInstance(node.value, (float, complex), path)
+                    if isinstance(node.value, str):
+                        self.assertNotIn("%", node.value, path)
+
+    def test_no_other_builtin_and_no_name_of_one_given_another_meaning(self):
+        for path, tree in self.trees.items():
+            bound = bound_names(tree)
+            self.assertEqual(bound & BUILTINS, set(), path)
+            read = {node.id for node in ast.walk(tree) if isinstance(node, ast.Name)}
+            self.assertEqual(sorted(name for name in read - bound - BUILTINS if name != "__name__"), [], path)
+
+    def test_plain_names(self):
+        for path, tree in self.trees.items():
+            for name in bound_names(tree):
+                self.assertTrue(not name.startswith("_") or re.fullmatch(r"__[a-z]+__", name), (path, name))
