@@ -1,6 +1,6 @@
 """What layers, windows and sheets are, and how long they are."""
 
-from lanternrows.errors import NoLayer, NoSheet, NoWindow
+from lanternrows.errors import Endless, NoLayer, NoSheet, NoWindow, Unlike
 from lanternrows.wholes import is_whole
 
 MOST_DRAWING = 9
@@ -86,6 +86,18 @@ def need_sheet(thing):
         raise NoSheet("a sheet is a tuple (layers, window)")
 
 
+def need_as_many_layers(one, other):
+    """Refuse two sheets that have not as many layers as one another."""
+    if len(one[0]) != len(other[0]):
+        raise Unlike("both sheets need as many layers")
+
+
+def need_length(length):
+    """Refuse the length of what goes round."""
+    if length is None:
+        raise Endless("what goes round has no length")
+
+
 def held(rows):
     """For how many pictures rows are held together."""
     return sum([hold for drawing, hold in rows])
@@ -103,6 +115,15 @@ def moved(window):
     return sum([many for goal_x, goal_y, many in moves])
 
 
+def full_length(sheet):
+    """The length of what is surely a sheet."""
+    layers, window = sheet
+    lengths = [length_of(layer) for layer in layers]
+    if None in lengths:
+        return None
+    return max(lengths + [moved(window)])
+
+
 def layer_length(layer):
     """The length of a layer, None where it goes round."""
     need_layer(layer)
@@ -118,8 +139,4 @@ def window_length(window):
 def sheet_length(sheet):
     """The length of a sheet, None where one of its layers goes round."""
     need_sheet(sheet)
-    layers, window = sheet
-    lengths = [length_of(layer) for layer in layers]
-    if None in lengths:
-        return None
-    return max(lengths + [moved(window)])
+    return full_length(sheet)

@@ -3,7 +3,7 @@
 import inspect
 import unittest
 
-from lanternrows import pictures, sheets
+from lanternrows import forever, joining, laying, pictures, sheets, timing
 
 LISTED = [
     (sheets, "is_layer", ["thing"]),
@@ -16,6 +16,18 @@ LISTED = [
     (pictures, "place_at", ["window", "moment"]),
     (pictures, "picture_at", ["sheet", "moment"]),
     (pictures, "pictures_from", ["sheet", "moment", "many"]),
+    (laying, "laid", ["layer", "many"]),
+    (laying, "folded", ["drawings"]),
+    (forever, "is_round", ["layer", "thing"]),
+    (forever, "least_round", ["layer"]),
+    (forever, "sheet_round", ["sheet"]),
+    (forever, "parting", ["one", "other"]),
+    (forever, "are_alike", ["one", "other"]),
+    (joining, "behind", ["one", "other"]),
+    (joining, "beside", ["one", "other"]),
+    (timing, "evened", ["layer", "many"]),
+    (timing, "retimed", ["layer", "many"]),
+    (timing, "sheet_retimed", ["sheet", "many"]),
 ]
 
 

@@ -1,6 +1,7 @@
 """The rules of LANGUAGE.md that can be read off the files without doubt."""
 
 import ast
+import builtins
 import re
 import unittest
 from pathlib import Path
@@ -17,6 +18,11 @@ BARRED_WORDS = (
     "type typing typing_extensions enum Enum IntEnum StrEnum Flag IntFlag Generic Protocol ABC ABCMeta namedtuple "
     "NamedTuple TypedDict TYPE_CHECKING abstractmethod"
 ).split()
+METHODS = set(
+    "append clear copy count endswith extend find get index insert isalnum isalpha isdigit islower isspace isupper "
+    "items join keys ljust lower lstrip partition pop remove replace reverse rfind rjust rpartition rsplit rstrip "
+    "setdefault split splitlines startswith strip update upper values zfill bit_length".split()
+)
 FUNCTIONS = (ast.FunctionDef, ast.AsyncFunctionDef)
 BARRED_NODES = (ast.Global, ast.AsyncFunctionDef, ast.AsyncFor, ast.AsyncWith, ast.Await, ast.Div, ast.Import)
 
@@ -99,3 +105,40 @@ class Language(unittest.TestCase):
         for path, tree in self.trees.items():
             for name in bound_names(tree):
                 self.assertTrue(not name.startswith("_") or re.fullmatch(r"__[a-z]+__", name), (path, name))
+
+    def test_no_variable_has_the_name_of_a_class_an_import_or_a_builtin(self):
+        for path, tree in self.trees.items():
+            nodes = list(ast.walk(tree))
+            taken = set(dir(builtins))
+            taken |= {node.asname or node.name for node in nodes if isinstance(node, ast.alias)}
+            taken |= {node.name for node in nodes if isinstance(node, ast.ClassDef)}
+            local = {node.arg for node in nodes if isinstance(node, ast.arg)}
+            local |= {node.id for node in nodes if isinstance(node, ast.Name) and isinstance(node.ctx, ast.Store)}
+            self.assertEqual(local & taken, set(), path)
+
+    def test_each_import_names_the_file_that_defines_the_name_and_none_go_round(self):
+        needs = {}
+        for path, tree in self.trees.items():
+            needs[path.stem] = set()
+            for node in ast.walk(tree):
+                if isinstance(node, ast.ImportFrom) and node.module != "__future__":
+                    stem = node.module.removeprefix("lanternrows.")
+                    needs[path.stem].add(stem)
+                    body = self.trees[PACKAGE / f"{stem}.py"].body
+                    own = {part.name for part in body if isinstance(part, (ast.FunctionDef, ast.ClassDef))}
+                    own |= {target.id for part in body if isinstance(part, ast.Assign) for target in part.targets}
+                    for alias in node.names:
+                        self.assertIn(alias.name, own, path)
+        while needs:
+            ready = [stem for stem in needs if not needs[stem] & set(needs)]
+            self.assertTrue(ready, needs)
+            for stem in ready:
+                del needs[stem]
+
+    def test_no_other_methods_of_builtin_values(self):
+        nodes = [node for tree in self.trees.values() for node in ast.walk(tree)]
+        own = {node.name for node in nodes if isinstance(node, ast.FunctionDef)}
+        for path, tree in self.trees.items():
+            for node in ast.walk(tree):
+                if isinstance(node, ast.Call) and isinstance(node.func, ast.Attribute):
+                    self.assertIn(node.func.attr, METHODS | own, path)

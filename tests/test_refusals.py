@@ -5,17 +5,9 @@ import unittest
 
 from lanternrows import errors, pictures, sheets
 from tests import things
+from tests.things import refusal
 
 STILL = (((((1, 1),), None),), (0, 0, ()))
-
-
-def refusal(asked, *handed):
-    """The class of the refusal, None where there is none."""
-    try:
-        asked(*handed)
-    except errors.LanternError as error:
-        return type(error)
-    return None
 
 
 class Refused(unittest.TestCase):

@@ -2,6 +2,9 @@
 
 from fractions import Fraction
 from itertools import product
+from random import Random
+
+from lanternrows import errors
 
 GREAT = 10 ** 9
 FIGURES = 10 ** 30 - 1
@@ -111,6 +114,17 @@ def wrong_sheets():
 WRONG_NUMBERS = STRANGE + [None, (), -1, ROW, LAYER]
 WRONG_MOMENTS = WRONG_NUMBERS + [GREAT + 1, GREAT + 200, 2 * GREAT]
 WRONG_MANIES = WRONG_NUMBERS + [201, 202, 1000, GREAT]
+# Of these, too, none is the number of pictures to which something is retimed.
+WRONG_TIMES = WRONG_MANIES + [0, -200]
+
+
+def wrong_drawings():
+    """What may not be folded; of STRANGE, three are lists of drawings."""
+    wrong = [strange for strange in STRANGE if strange not in ([], [1], [0, 1])]
+    wrong += [None, (), (1,), (1, 2), "", "12", 0, 1, {1: 2}, [0] * 201, [9] * 202, [1, 2] * 200, ROW, LAYER, SHEET]
+    for bad in (True, False, -1, 10, 11, FIGURES, -FIGURES, None, "1", "", [], [1], (), (1,), {}, (1, 1)):
+        wrong += [[bad], [1, bad], [bad, 1], [0] * 199 + [bad], [bad] + [9] * 199, [bad] * 3]
+    return wrong
 
 
 def small_layers():
@@ -207,3 +221,78 @@ def in_kind(thing):
     if isinstance(thing, (list, tuple)):
         return [type(thing), [in_kind(inner) for inner in thing]]
     return [type(thing), thing]
+
+
+def refused(asked, *handed):
+    """The refusal, None where there is none."""
+    try:
+        asked(*handed)
+    except errors.LanternError as error:
+        return error
+    return None
+
+
+def refusal(asked, *handed):
+    """The class of the refusal, None where there is none."""
+    error = refused(asked, *handed)
+    return None if error is None else type(error)
+
+
+def straight_layers():
+    """Layers with a length, of all sorts."""
+    return [layer for layer in small_layers() + full_layers() + mixed_layers(60) if layer[1] is None]
+
+
+def mixed_layers(many, most_rows=8, most_hold=24):
+    """Layers without any order in them, the same ones each time."""
+    chance = Random(many)
+    layers = []
+    for turn in range(many):
+        size = chance.randint(0, most_rows)
+        pool = chance.choice(((0, 1), (1, 2), (0, 1, 2), tuple(range(10))))
+        holds = chance.choice(((1, 2), (1, most_hold), (1, 3)))
+        rows = tuple((chance.choice(pool), chance.randint(*holds)) for row in range(size))
+        layers.append((rows, chance.choice([None, *range(size)])))
+    return layers
+
+
+def mixed_windows(many, most_moves=8):
+    """Windows without any order in them, the same ones each time."""
+    chance = Random(many)
+    windows = []
+    for turn in range(many):
+        ways = chance.choice(((0,), (0, 1), (-20, 0, 20), tuple(range(-20, 21))))
+        manies = chance.choice(((0, 0), (0, 1), (0, 3), (0, 24)))
+        moves = [(chance.choice(ways), chance.choice(ways), chance.randint(*manies))
+                 for move in range(chance.randint(0, most_moves))]
+        windows.append((chance.choice(ways), chance.choice(ways), tuple(moves)))
+    return windows
+
+
+def mixed_sheets(many, most_rows=8, most_hold=24, most_moves=8):
+    """Sheets of one to four layers without any order in them, the same ones each time."""
+    layers = mixed_layers(many * 4, most_rows, most_hold)
+    windows = mixed_windows(many, most_moves)
+    return [(tuple(layers[at * 4:at * 4 + at % 4 + 1]), window) for at, window in enumerate(windows)]
+
+
+def straight(sheet):
+    """The sheet whose layers go round no more."""
+    layers, window = sheet
+    return (tuple((rows, None) for rows, back in layers), window)
+
+
+def plain_length(sheet):
+    """The length of a sheet of which no layer goes round."""
+    layers, (x, y, moves) = sheet
+    return max([sum(hold for drawing, hold in rows) for rows, back in layers] + [sum(move[2] for move in moves)])
+
+
+def outcome(asked, *handed):
+    """What is told; where it is refused, the class of the refusal, and its fields if it has some."""
+    error = refused(asked, *handed)
+    if error is None:
+        return asked(*handed)
+    if isinstance(error, errors.TooMany):
+        return (errors.TooMany, error.many, error.most)
+    return type(error)
