@@ -2,8 +2,8 @@
 
 from lanternrows.errors import NoDrawings
 from lanternrows.pictures import MOST_PICTURES
-from lanternrows.sheets import MOST_DRAWING, MOST_HOLD, MOST_ROWS, need_layer
-from lanternrows.wholes import is_whole, need_at_most, need_number
+from lanternrows.sheets import MOST_HOLD, MOST_ROWS, is_drawing, need_layer
+from lanternrows.wholes import need_at_most, need_number
 
 
 def drawings_of(rows):
@@ -37,7 +37,7 @@ def are_drawings(thing):
     """Whether a thing of whatever kind is a list of drawings, of no more than may be folded."""
     if not isinstance(thing, list) or len(thing) > MOST_PICTURES:
         return False
-    return all([is_whole(drawing, 0, MOST_DRAWING) for drawing in thing])
+    return all([is_drawing(drawing) for drawing in thing])
 
 
 def runs_of(drawings):

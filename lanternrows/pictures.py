@@ -62,6 +62,11 @@ def picture_of(sheet, moment):
     return (drawings, place_of(window, moment))
 
 
+def pictures_of(sheet, moment, many):
+    """The list of so many pictures of what is surely a sheet from a moment on."""
+    return [picture_of(sheet, moment + ahead) for ahead in range(many)]
+
+
 def drawing_at(layer, moment):
     """What a layer shows at a moment."""
     need_layer(layer)
@@ -89,4 +94,4 @@ def pictures_from(sheet, moment, many):
     need_moment(moment)
     need_number(many, 0, MOST_PICTURES)
     # The last ones may stand behind the last moment that may be handed in.
-    return [picture_of(sheet, moment + ahead) for ahead in range(many)]
+    return pictures_of(sheet, moment, many)

@@ -1,6 +1,6 @@
 """What layers, windows and sheets are, and how long they are."""
 
-from lanternrows.errors import Endless, NoLayer, NoSheet, NoWindow, Unlike
+from lanternrows.errors import Endless, NoLayer, NoRow, NoSheet, NoWindow, Unlike
 from lanternrows.wholes import is_whole
 
 MOST_DRAWING = 9
@@ -17,12 +17,22 @@ def is_tuple(thing, least, most):
     return isinstance(thing, tuple) and least <= len(thing) <= most
 
 
+def is_drawing(thing):
+    """Whether a thing of whatever kind is a drawing."""
+    return is_whole(thing, 0, MOST_DRAWING)
+
+
+def is_hold(thing):
+    """Whether a thing of whatever kind is for how many pictures a row may be held."""
+    return is_whole(thing, 1, MOST_HOLD)
+
+
 def is_row(thing):
     """Whether a thing of whatever kind is a row."""
     if not is_tuple(thing, 2, 2):
         return False
     drawing, hold = thing
-    return is_whole(drawing, 0, MOST_DRAWING) and is_whole(hold, 1, MOST_HOLD)
+    return is_drawing(drawing) and is_hold(hold)
 
 
 def is_layer(thing):
@@ -35,9 +45,14 @@ def is_layer(thing):
     return back is None or is_whole(back, 0, len(rows) - 1)
 
 
-def is_spot(x, y):
-    """Whether a window may begin at (x, y) or move to it."""
-    return is_whole(x, -MOST_WAY, MOST_WAY) and is_whole(y, -MOST_WAY, MOST_WAY)
+def is_way(thing):
+    """Whether a thing of whatever kind is an x or a y to which a window may move."""
+    return is_whole(thing, -MOST_WAY, MOST_WAY)
+
+
+def is_many(thing):
+    """Whether a thing of whatever kind is how many pictures a move may take."""
+    return is_whole(thing, 0, MOST_MANY)
 
 
 def is_move(thing):
@@ -45,7 +60,7 @@ def is_move(thing):
     if not is_tuple(thing, 3, 3):
         return False
     x, y, many = thing
-    return is_spot(x, y) and is_whole(many, 0, MOST_MANY)
+    return is_way(x) and is_way(y) and is_many(many)
 
 
 def is_window(thing):
@@ -53,7 +68,7 @@ def is_window(thing):
     if not is_tuple(thing, 3, 3):
         return False
     x, y, moves = thing
-    if not is_spot(x, y) or not is_tuple(moves, 0, MOST_MOVES):
+    if not is_way(x) or not is_way(y) or not is_tuple(moves, 0, MOST_MOVES):
         return False
     return all([is_move(move) for move in moves])
 
@@ -66,6 +81,12 @@ def is_sheet(thing):
     if not is_tuple(layers, 1, MOST_LAYERS):
         return False
     return all([is_layer(layer) for layer in layers]) and is_window(window)
+
+
+def need_row(thing):
+    """Refuse what is no row."""
+    if not is_row(thing):
+        raise NoRow("a row is a tuple (drawing, hold)")
 
 
 def need_layer(thing):

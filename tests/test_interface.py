@@ -3,7 +3,7 @@
 import inspect
 import unittest
 
-from lanternrows import forever, joining, laying, pictures, sheets, timing
+from lanternrows import desk, forever, joining, laying, pictures, plates, roll, sheets, texts, timing
 
 LISTED = [
     (sheets, "is_layer", ["thing"]),
@@ -28,6 +28,23 @@ LISTED = [
     (timing, "evened", ["layer", "many"]),
     (timing, "retimed", ["layer", "many"]),
     (timing, "sheet_retimed", ["sheet", "many"]),
+    (plates, "plates", ["sheet", "many"]),
+    (plates, "changed", ["sheet", "layer", "place", "row"]),
+    (plates, "is_paper", ["one", "other", "many", "thing"]),
+    (plates, "made_by", ["one", "other", "many", "paper"]),
+    (plates, "least_paper", ["one", "other", "many"]),
+    (texts, "sheet_text", ["sheet"]),
+    (texts, "read_sheet", ["text"]),
+    (roll, "Roll", []),
+    (desk, "Desk", []),
+]
+METHODS = [
+    (roll.Roll, "put", ["self", "deed"]),
+    (roll.Roll, "sheet_now", ["self"]),
+    (roll.Roll, "standing", ["self"]),
+    (roll.Roll, "leaning", ["self", "number"]),
+    (roll.Roll, "undo", ["self", "number"]),
+    (desk.Desk, "tell", ["self", "row"]),
 ]
 
 
@@ -37,3 +54,9 @@ class Interface(unittest.TestCase):
             with self.subTest(name=name):
                 asked = getattr(module, name)
                 self.assertEqual(list(inspect.signature(asked).parameters), arguments)
+
+    def test_methods_stand_in_their_class_itself(self):
+        for owner, name, arguments in METHODS:
+            with self.subTest(name=name):
+                self.assertIn(name, vars(owner))
+                self.assertEqual(list(inspect.signature(vars(owner)[name]).parameters), arguments)

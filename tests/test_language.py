@@ -21,7 +21,9 @@ BARRED_WORDS = (
 METHODS = set(
     "append clear copy count endswith extend find get index insert isalnum isalpha isdigit islower isspace isupper "
     "items join keys ljust lower lstrip partition pop remove replace reverse rfind rjust rpartition rsplit rstrip "
-    "setdefault split splitlines startswith strip update upper values zfill bit_length".split()
+    "setdefault split splitlines startswith strip update upper values zfill bit_length "
+    "title capitalize swapcase casefold center expandtabs removeprefix removesuffix rindex isascii isdecimal isnumeric "
+    "istitle isidentifier isprintable".split()
 )
 FUNCTIONS = (ast.FunctionDef, ast.AsyncFunctionDef)
 BARRED_NODES = (ast.Global, ast.AsyncFunctionDef, ast.AsyncFor, ast.AsyncWith, ast.Await, ast.Div, ast.Import)
@@ -142,3 +144,46 @@ class Language(unittest.TestCase):
             for node in ast.walk(tree):
                 if isinstance(node, ast.Call) and isinstance(node.func, ast.Attribute):
                     self.assertIn(node.func.attr, METHODS | own, path)
+
+    def test_no_name_is_a_method_and_an_attribute(self):
+        nodes = [node for tree in self.trees.values() for node in ast.walk(tree)]
+        classes = [node for node in nodes if isinstance(node, ast.ClassDef)]
+        methods = [part.name for owner in classes for part in owner.body if isinstance(part, ast.FunctionDef)]
+        assigned = {
+            node.attr for node in nodes if isinstance(node, ast.Attribute) and isinstance(node.ctx, ast.Store)
+        }
+        self.assertEqual(assigned & set(methods), set())
+        called = {node.func for node in nodes if isinstance(node, ast.Call)}
+        read = {
+            node.attr for node in nodes
+            if isinstance(node, ast.Attribute) and isinstance(node.ctx, ast.Load) and node not in called
+        }
+        self.assertEqual(sorted(read - assigned), [])
+
+    def test_no_method_of_a_builtin_value_is_an_attribute_or_a_method(self):
+        kinds = (str, int, list, dict, set, bytes, tuple)
+        taken = {name for kind in kinds for name in dir(kind) if not name.startswith("__")}
+        for tree in self.trees.values():
+            for node in ast.walk(tree):
+                if isinstance(node, ast.Attribute) and isinstance(node.ctx, ast.Store):
+                    self.assertNotIn(node.attr, taken)
+                if isinstance(node, ast.ClassDef):
+                    for part in node.body:
+                        if isinstance(part, ast.FunctionDef) and not part.name.startswith("__"):
+                            self.assertNotIn(part.name, taken)
+
+    def test_module_level_has_plain_values_only(self):
+        allowed = (ast.Expr, ast.ImportFrom, ast.FunctionDef, ast.ClassDef, ast.Assign)
+        for path, tree in self.trees.items():
+            bound = []
+            for part in tree.body:
+                self.assertIsInstance(part, allowed, path)
+                if isinstance(part, ast.ImportFrom):
+                    bound += [alias.asname or alias.name for alias in part.names]
+                elif isinstance(part, ast.Assign):
+                    bound += [target.id for target in part.targets]
+                    self.assertFalse([node for node in ast.walk(part) if isinstance(node, (ast.Call, ast.Lambda))])
+                elif isinstance(part, (ast.FunctionDef, ast.ClassDef)):
+                    bound.append(part.name)
+                    self.assertEqual(part.decorator_list, [])
+            self.assertEqual(len(bound), len(set(bound)), path)
